@@ -4,27 +4,7 @@ import unittest
 from evenring import answers
 from evenring.answers import Answer, Even, Stretch, Uneven, Within
 from evenring.rings import Ring, together, turned
-
-
-def carried_out(houses, carried):
-    """What each house has over once the goods have gone over the bridges."""
-    left = list(houses)
-    for bridge, amount in enumerate(carried):
-        left[bridge] -= amount
-        left[(bridge + 1) % len(left)] += amount
-    return left
-
-
-def is_evened(houses, carried):
-    return carried_out(houses, carried) == [0] * len(houses)
-
-
-def cost(carried, tolls):
-    return sum(toll * max(amount, -amount) for toll, amount in zip(tolls, carried))
-
-
-def rings(count, numbers):
-    return [list(houses) for houses in itertools.product(numbers, repeat=count)]
+from tests.common import cost, is_evened, rings
 
 
 class TruthTest(unittest.TestCase):

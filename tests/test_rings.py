@@ -3,34 +3,9 @@ import unittest
 
 from evenring.errors import BadMost, BadRing, Unlike
 from evenring.rings import Ring, together, turned
+from tests.common import NO_NUMBERS, Strange
 
 BOUND = 1000000
-
-# Kinds that are no whole number wherever one is asked for; True and False are among them.
-NO_NUMBERS = [True, False, None, "1", "", 1.0, 0.5, float("nan"), float("inf"), 1j, b"1", [1], [], (1,), {}, {1},
-              object(), int, len, Ring([0, 0])]
-
-
-class Strange:
-    """Answers every question about itself with an error."""
-
-    def __eq__(self, other):
-        raise RuntimeError("compared")
-
-    def __len__(self):
-        raise RuntimeError("measured")
-
-    def __iter__(self):
-        raise RuntimeError("walked")
-
-    def __index__(self):
-        raise RuntimeError("counted")
-
-    def __bool__(self):
-        raise RuntimeError("asked")
-
-    def __repr__(self):
-        raise RuntimeError("shown")
 
 
 class RingTest(unittest.TestCase):
